@@ -1,0 +1,1 @@
+"""Mailforwards: letters that are sent on from address to address."""
