@@ -102,3 +102,11 @@ class Book:
         """Raise UnknownOrder for anything that is not the number of an order."""
         if not is_number(index, 0, len(self._orders) - 1):
             raise UnknownOrder(index)
+
+
+def with_last_day(book, index, day):
+    """The book in which the last day of an order is this one."""
+    orders = list(book.orders)
+    source, target, first, _, way = book[index]
+    orders[index] = (source, target, first, day, way)
+    return Book(*orders)

@@ -1,11 +1,10 @@
 """Where letters go, where they end, and where they meet."""
 
-from mailforwards.checks import MAX_DAY, check_letter, check_number
+from mailforwards.checks import check_letter, check_number
 from mailforwards.errors import InvalidAddress
+from mailforwards.walking import MAX_TIMES, holding, walk
 
 MAX_ARRIVALS = 1000
-# Each order takes a day at least, and none sends on what arrives behind the last day.
-MAX_TIMES = MAX_DAY + 1
 
 
 def end(book, address, day):
@@ -27,10 +26,10 @@ def route(book, address, day, count):
     check_number(count, 0, MAX_ARRIVALS)
     for _ in range(count):
         yield address, day
-        sending = _holding(book, day)[0]
+        sending, _ = holding(book, day)
         if address not in sending:
             return
-        address, way = sending[address]
+        address, way, _ = sending[address]
         day = day + way
 
 
@@ -78,36 +77,9 @@ def _arrival(book, letter, times):
 def _sent_on(book, address, day, most):
     """The arrival of a letter after so many orders, or its last one, and how many it were."""
     times = 0
-    sending, last = _holding(book, day)
+    sending, last = holding(book, day)
     while times < most and address in sending:
-        address, day, more = _sent_until(sending, last, address, day, most - times)
+        address, day, more, _ = walk(sending, last, address, day, most - times)
         times = times + more
-        sending, last = _holding(book, day)
-    return address, day, times
-
-
-def _holding(book, day):
-    """A dict from the source of each order that holds on a day to its target and its way,
-    and the last day on which all of these orders hold."""
-    orders = [order for order in book.orders if order[2] <= day <= order[3]]
-    sending = {order[0]: (order[1], order[4]) for order in orders}
-    return sending, min([order[3] for order in orders], default=day)
-
-
-def _sent_until(sending, last, address, day, most):
-    """As _sent_on, but by these orders only, and up to their last day."""
-    times = 0
-    seen = {}
-    while times < most and day <= last and address in sending:
-        if address in seen:
-            # A loop can take 10 ** 18 days: its rounds are counted, not walked.
-            days, orders = day - seen[address][0], times - seen[address][1]
-            rounds = min((last - day) // days, (most - times) // orders)
-            day, times = day + rounds * days, times + rounds * orders
-            # Less than a round is left now, and that is walked.
-            seen = {}
-        else:
-            seen[address] = (day, times)
-            address, way = sending[address]
-            day, times = day + way, times + 1
+        sending, last = holding(book, day)
     return address, day, times

@@ -9,7 +9,7 @@ import os
 import unittest
 
 FOLDER = os.path.join(os.path.dirname(os.path.abspath(__file__)), "examples")
-MODULES = ["books", "letters"]
+MODULES = ["books", "counting", "letters", "live", "prolonging"]
 
 
 def outcome(rows):

@@ -84,6 +84,11 @@ class Form(unittest.TestCase):
         for place, part in self.each(ast.Constant):
             self.assertNotIsInstance(part.value, (float, complex), place)
 
+    def test_lists_instead_of_generator_expressions(self):
+        # Books have a sign for equality, so no builtin takes a generator expression.
+        for place, part in self.each(ast.GeneratorExp):
+            self.fail(f"{place}: {part}")
+
     def test_builtins(self):
         for place, part in self.each(ast.Name):
             if hasattr(builtins, part.id):

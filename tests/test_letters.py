@@ -10,45 +10,11 @@ from mailforwards import letters
 from mailforwards.books import Book
 from mailforwards.errors import InvalidAddress, InvalidDay, InvalidNumber
 from mailforwards.letters import end, meeting, route, times_sent
+from samples import SETTLED, scattered_books, shifted, small_and_great_books
 from wrong import LAST_DAY, NOT_ADDRESSES, NOT_DAYS, NOT_NUMBERS, raised
 
 TWO = Book(("a", "b", 0, 9, 1), ("b", "a", 5, 12, 2))
 FOREVER = Book.chain(0, LAST_DAY, 1, "a", "b", "a")
-
-
-def scattered_books(count, longest=4):
-    """Books of many shapes, the same ones for each run."""
-    chance = random.Random(4)
-    for _ in range(count):
-        yield Book(*slow.random_orders(chance, "abcd", 60, longest))
-
-
-# All loops of at most four orders, of one or two days each, divide this number of days.
-PERIOD = 8 * 3 * 5 * 7
-# What holds on this day is prolonged, and what begins behind it is put off.
-STRETCHED = 30
-# By this day, letters of the first 30 days have ended, or have come into a loop.
-SETTLED = 45
-
-
-def stretched(orders, days):
-    """Orders as they are if one day takes so many days more."""
-    return [(source, target, first + days * (first > STRETCHED), last + days * (last >= STRETCHED), way)
-            for source, target, first, last, way in orders]
-
-
-def small_and_great_books(count):
-    """Pairs of books with long and longer loops, and how many days these are longer."""
-    chance = random.Random(44)
-    shift = (LAST_DAY // PERIOD - 2) * PERIOD
-    for _ in range(count):
-        orders = slow.random_orders(chance, "abcd", 60, 2)
-        yield (Book(*stretched(orders, PERIOD)), Book(*stretched(orders, PERIOD + shift)), shift)
-
-
-def shifted(arrival, shift):
-    """An arrival in a small book as it is in the great one."""
-    return arrival if arrival[1] <= SETTLED else (arrival[0], arrival[1] + shift)
 
 
 class Names(unittest.TestCase):

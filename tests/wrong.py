@@ -18,3 +18,11 @@ def raised(case, error, call, *arguments, **named):
         call(*arguments, **named)
     case.assertIs(type(caught.exception), error)
     return caught.exception
+
+
+def outcome(call):
+    """What a call returns, or the class of the error that it raises."""
+    try:
+        return call()
+    except ValueError as error:
+        return type(error)
