@@ -19,8 +19,8 @@ def _is_order(value):
     return is_number(way, 1, MAX_WAY)
 
 
-def _share_day(one, other):
-    """Tell whether two orders of the same source have a day in common."""
+def share_day(one, other):
+    """Tell whether two orders are of the same source and have a day in common."""
     return one[0] == other[0] and one[2] <= other[3] and other[2] <= one[3]
 
 
@@ -33,7 +33,7 @@ class Book:
         for index, order in enumerate(orders):
             if index >= Book.MAX_ORDERS or not _is_order(order):
                 raise InvalidOrder(index)
-            if any([_share_day(order, earlier) for earlier in orders[:index]]):
+            if any([share_day(order, earlier) for earlier in orders[:index]]):
                 raise InvalidOrder(index)
         self._orders = orders
 
@@ -106,7 +106,18 @@ class Book:
 
 def with_last_day(book, index, day):
     """The book in which the last day of an order is this one."""
-    orders = list(book.orders)
     source, target, first, _, way = book[index]
-    orders[index] = (source, target, first, day, way)
+    return _with_order(book, index, (source, target, first, day, way))
+
+
+def with_way(book, index, way):
+    """The book in which the way of an order is this one."""
+    source, target, first, last, _ = book[index]
+    return _with_order(book, index, (source, target, first, last, way))
+
+
+def _with_order(book, index, order):
+    """The book with another order at an index."""
+    orders = list(book.orders)
+    orders[index] = order
     return Book(*orders)

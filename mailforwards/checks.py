@@ -31,11 +31,16 @@ def check_address(address):
         raise InvalidAddress("an address has one to eight letters a to z")
 
 
+def check_day(day):
+    """Raise InvalidDay for anything that is not a day on which a letter can be posted."""
+    if not is_day(day):
+        raise InvalidDay("a day is a number from 0 to 10 ** 18")
+
+
 def check_letter(address, day):
     """Raise InvalidAddress, then InvalidDay, for anything that is not a letter."""
     check_address(address)
-    if not is_day(day):
-        raise InvalidDay("a day is a number from 0 to 10 ** 18")
+    check_day(day)
 
 
 def check_number(number, low, high):

@@ -1,10 +1,12 @@
 """What the document tells of letters, one arrival after the other."""
 
 
-def arrivals(orders, address, day):
-    """All arrivals of a letter."""
+def arrivals(orders, address, day, most=None):
+    """All arrivals of a letter, or its first ones, at most so many."""
     found = [(address, day)]
     while True:
+        if len(found) == most:
+            return found
         nexts = [(target, day + way) for source, target, first, last, way in orders
                  if source == address and first <= day <= last]
         if not nexts:
@@ -33,6 +35,25 @@ def senders(orders, address, first, last):
               for arrival in arrivals(orders, address, day)]
     return [index for index, order in enumerate(orders)
             if any(order[0] == source and order[2] <= day <= order[3] for source, day in passed)]
+
+
+def ends_by_ways(orders, index, address, day):
+    """A dict from each way that an order can have to the address at which a letter ends then."""
+    found = {}
+    for way in range(1, 31):
+        changed = list(orders)
+        changed[index] = (*orders[index][:4], way)
+        found[way] = arrivals(changed, address, day)[-1][0]
+    return found
+
+
+def telling_day(orders, index, ways, address, limit):
+    """The first day, up to a limit, on which letters end at several addresses by some ways."""
+    for day in range(limit + 1):
+        ends = ends_by_ways(orders, index, address, day)
+        if len({ends[way] for way in ways}) > 1:
+            return day
+    return None
 
 
 def prolonging(orders, address, day, goal, limit):

@@ -9,7 +9,7 @@ import os
 import unittest
 
 FOLDER = os.path.join(os.path.dirname(os.path.abspath(__file__)), "examples")
-MODULES = ["books", "counting", "letters", "live", "prolonging"]
+MODULES = ["books", "codec", "counting", "letters", "live", "notation", "prolonging", "watching"]
 
 
 def outcome(rows):

@@ -84,6 +84,21 @@ class Form(unittest.TestCase):
         for place, part in self.each(ast.Constant):
             self.assertNotIsInstance(part.value, (float, complex), place)
 
+    def test_rests_are_those_of_plain_numbers(self):
+        # The package makes bytes, so each % tells on the spot that it stands behind a number.
+        for place, part in self.each((ast.BinOp, ast.AugAssign)):
+            if isinstance(part.op, ast.Mod):
+                self.assertIsInstance(part, ast.BinOp, place)
+                self.assertIsInstance(part.left, ast.Call, place)
+                self.assertIn(getattr(part.left.func, "id", None), ("int", "len"), place)
+
+    def test_strings(self):
+        for name, (_, tree) in sources().items():
+            for part in ast.walk(tree):
+                if isinstance(part, ast.Constant) and isinstance(part.value, str):
+                    self.assertNotIn("%", part.value, name)
+                    self.assertNotIn("__", part.value, name)
+
     def test_lists_instead_of_generator_expressions(self):
         # Books have a sign for equality, so no builtin takes a generator expression.
         for place, part in self.each(ast.GeneratorExp):
